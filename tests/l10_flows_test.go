@@ -803,9 +803,37 @@ func TestWhereverARunGoes(t *testing.T) {
 	}
 }
 
+const wrongSource = "var x\nflag b\narray a 2\nx = 1\nsplit x 0 1\nfork x < 1\nend\nmerge\n"
+
+// wrongProgs are made of a right one by one change each.
+func wrongProgs(t *testing.T) []impl.Prog {
+	p := progOf(t, wrongSource)
+	var wrong []impl.Prog
+	change := func(do func(p *impl.Prog)) {
+		other := withRoom(p)
+		do(&other)
+		wrong = append(wrong, other)
+	}
+	change(func(p *impl.Prog) { p.Lines[0].V = 1 })
+	change(func(p *impl.Prog) { p.Lines[0].Hi = 1 })
+	change(func(p *impl.Prog) { p.Lines[0].E = nil })
+	change(func(p *impl.Prog) { p.Lines[0].Kind = 15 })
+	change(func(p *impl.Prog) { p.Lines[1].Hi = 4 })
+	change(func(p *impl.Prog) { p.Lines[1].Lo = 2 })
+	change(func(p *impl.Prog) { p.Lines[3].Kind = impl.LnMerge })
+	change(func(p *impl.Prog) { p.Lines[4].Kind = impl.LnEnd })
+	change(func(p *impl.Prog) { p.Lines[4].Kind = impl.LnElse })
+	change(func(p *impl.Prog) { p.Lines = append(p.Lines, make([]impl.Line, 1)...) })
+	change(func(p *impl.Prog) { p.Lines = slices.Repeat([]impl.Line{{Kind: impl.LnMerge}}, 31) })
+	for _, d := range wrongDecls() {
+		change(func(p *impl.Prog) { p.D = d })
+		change(func(p *impl.Prog) { p.D, p.Lines = d, nil })
+	}
+	return wrong
+}
+
 func TestFlowsOfWhatIsWrong(t *testing.T) {
-	src := "x = 1\nsplit x 0 1\nfork x < 1\nend\nmerge\n"
-	p := progOf(t, "var x\nflag b\narray a 2\n"+src)
+	p := progOf(t, wrongSource)
 	right := partsBy(fewRisen(), []impl.Env{{Live: true, Ints: []impl.Interval{iv(0, 3)}, Arrs: []impl.Interval{iv(0, 3)}}, {}})
 	for at := range int64(5) {
 		if f := checkFlow(t, p, at, right); len(f.Edges) == 0 {
@@ -837,28 +865,7 @@ func TestFlowsOfWhatIsWrong(t *testing.T) {
 			}
 		}
 	}
-	var wrong []impl.Prog
-	change := func(do func(p *impl.Prog)) {
-		other := withRoom(p)
-		do(&other)
-		wrong = append(wrong, other)
-	}
-	change(func(p *impl.Prog) { p.Lines[0].V = 1 })
-	change(func(p *impl.Prog) { p.Lines[0].Hi = 1 })
-	change(func(p *impl.Prog) { p.Lines[0].E = nil })
-	change(func(p *impl.Prog) { p.Lines[0].Kind = 15 })
-	change(func(p *impl.Prog) { p.Lines[1].Hi = 4 })
-	change(func(p *impl.Prog) { p.Lines[1].Lo = 2 })
-	change(func(p *impl.Prog) { p.Lines[3].Kind = impl.LnMerge })
-	change(func(p *impl.Prog) { p.Lines[4].Kind = impl.LnEnd })
-	change(func(p *impl.Prog) { p.Lines[4].Kind = impl.LnElse })
-	change(func(p *impl.Prog) { p.Lines = append(p.Lines, make([]impl.Line, 1)...) })
-	change(func(p *impl.Prog) { p.Lines = slices.Repeat([]impl.Line{{Kind: impl.LnMerge}}, 31) })
-	for _, d := range wrongDecls() {
-		change(func(p *impl.Prog) { p.D = d })
-		change(func(p *impl.Prog) { p.D, p.Lines = d, nil })
-	}
-	for _, w := range wrong {
+	for _, w := range wrongProgs(t) {
 		if impl.ProgOk(w) {
 			t.Fatal(w)
 		}
